@@ -1,0 +1,1 @@
+"""A school bus's stops: who walks where, and which stops the bus goes to."""
