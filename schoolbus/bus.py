@@ -1,4 +1,4 @@
-"""What is known of one bus. Stops and pupils are told by their numbers, s and p, which are places in a list."""
+"""What is known of one bus. Its stops and pupils are told by their numbers in their lists: s and p."""
 
 LONGEST_RIDE = 10000
 
