@@ -1,1 +1,1 @@
-"""A school bus's stops: who walks where, and which stops the bus goes to."""
+"""A school bus's stops: who walks where, which stops the bus goes to, when, and which it could do without."""

@@ -1,9 +1,9 @@
 """The calls that change something: begin, rule, stops, pupils and the order. Each gives back its answer."""
 
 from schoolbus.bus import Bus, LONGEST_RIDE, Pupil, Stop
-from schoolbus.orders import best_order
+from schoolbus.orders import best_order, refusal_to_order
 from schoolbus.places import is_place
-from schoolbus.refusals import ALREADY_SO, CLOSED, NO_SUCH, NONE_AT_ALL, OUT_OF_RANGE, TOO_MANY
+from schoolbus.refusals import ALREADY_SO, CLOSED, NO_SUCH, OUT_OF_RANGE, TOO_MANY
 from schoolbus.walking import pupils_at, stops_with_pupils
 
 MOST_WALK = 1000
@@ -11,7 +11,6 @@ MOST_SEATS = 60
 MOST_WAIT = 100
 MOST_STOPS = 10
 MOST_PUPILS = 20
-MOST_STOPS_TO_ORDER = 6
 
 
 def begin(line, school, garage, walk, seats):
@@ -111,9 +110,8 @@ def set_route(bus, told):
 
 def take_best(bus):
     needed = stops_with_pupils(bus)
-    if len(needed) == 0:
-        return [NONE_AT_ALL]
-    if len(needed) > MOST_STOPS_TO_ORDER:
-        return [TOO_MANY]
+    refusal = refusal_to_order(needed)
+    if refusal is not None:
+        return [refusal]
     bus.order = best_order(bus, needed)
     return [len(needed)]

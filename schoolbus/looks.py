@@ -1,12 +1,15 @@
-"""The calls that only look. Each gives back its answer."""
+"""The calls that look at stops and pupils, at the order, and at all. Each gives back its answer."""
 
-from schoolbus.places import how_far
-from schoolbus.refusals import CANNOT_BE, NO_SUCH
-from schoolbus.walking import pupils_at, pupils_there, stop_of
+from schoolbus.orders import way
+from schoolbus.places import how_far, is_place
+from schoolbus.refusals import CANNOT_BE, NO_SUCH, OUT_OF_RANGE
+from schoolbus.telling import counted
+from schoolbus.trips import morning_length, riders, served_stops
+from schoolbus.walking import is_within_walk, open_stops, pupils_at, pupils_there, pupils_without_stop, stop_of
 
 
-def counted(numbers):
-    return [len(numbers)] + numbers
+def walk_of(bus, p):
+    return how_far(bus.stops[stop_of(bus, p)].place, bus.pupils[p].home)
 
 
 def where(bus, p):
@@ -15,7 +18,7 @@ def where(bus, p):
     s = stop_of(bus, p)
     if s is None:
         return [CANNOT_BE]
-    return [s, how_far(bus.stops[s].place, bus.pupils[p].home)]
+    return [s, walk_of(bus, p)]
 
 
 def at(bus, s):
@@ -25,7 +28,7 @@ def at(bus, s):
 
 
 def unreached(bus):
-    return counted([p for p in pupils_there(bus) if stop_of(bus, p) is None])
+    return counted(pupils_without_stop(bus))
 
 
 def is_unserved(bus, p):
@@ -35,3 +38,26 @@ def is_unserved(bus, p):
 
 def unserved(bus):
     return counted([p for p in pupils_there(bus) if is_unserved(bus, p)])
+
+
+def walks(bus):
+    far = [walk_of(bus, p) for p in pupils_there(bus) if stop_of(bus, p) is not None]
+    return [len(far), sum(far), max(far, default=0)]
+
+
+def reach(bus, x, y):
+    if not is_place(x, y):
+        return [OUT_OF_RANGE]
+    near = [p for p in pupils_there(bus) if is_within_walk(bus, (x, y), bus.pupils[p].home)]
+    return [len(near), len([p for p in near if stop_of(bus, p) is None])]
+
+
+def order_now(bus):
+    return counted(bus.order) + [way(bus, served_stops(bus))]
+
+
+def state(bus):
+    return [
+        0, len(bus.stops), len(open_stops(bus)), len(bus.pupils), len(pupils_there(bus)), len(riders(bus)),
+        morning_length(bus),
+    ]

@@ -1,6 +1,9 @@
 """Orders of stops, and the shortest of them."""
 
 from schoolbus.places import how_far
+from schoolbus.refusals import NONE_AT_ALL, TOO_MANY
+
+MOST_STOPS_TO_ORDER = 6
 
 
 def way(bus, order):
@@ -26,6 +29,14 @@ def all_orders(stops):
     while len(orders[0]) < len(stops):
         orders = one_stop_longer(orders, stops)
     return orders
+
+
+def refusal_to_order(stops):
+    if len(stops) == 0:
+        return NONE_AT_ALL
+    if len(stops) > MOST_STOPS_TO_ORDER:
+        return TOO_MANY
+    return None
 
 
 def best_order(bus, rising):

@@ -4,22 +4,22 @@ from schoolbus.bus import Line
 from schoolbus.changes import (
     add_pupil, add_stop, begin, bring_back, close_stop, move_pupil, open_stop, rule, send_away, set_route, take_best,
 )
-from schoolbus.looks import at, unreached, unserved, where
+from schoolbus.choices import best, fewest, spare
+from schoolbus.looks import at, order_now, reach, state, unreached, unserved, walks, where
 from schoolbus.refusals import NOT_BEGUN
+from schoolbus.rides import evening, full, latest, loads, longest, morning, ride, toolong
 
 BEGIN = 0
 ROUTE = 9
 LAST_CHANGE = 10
+FIRST_OF_RIDES = 15
+LAST_OF_RIDES = 22
 
 # How many whole numbers each call has, by its number; of route it's the count of its row.
 HOW_MANY = (
     6, 3, 2, 1, 1, 2, 3, 1, 1, 1, 0, 1, 1, 0, 0,
     1, 1, 1, 1, 0, 0, 0, 0, 0, 0, 0, 0, 2, 0, 0,
 )
-
-
-class NotBuilt(Exception):
-    pass
 
 
 def change(bus, number, given):
@@ -45,6 +45,24 @@ def change(bus, number, given):
     return take_best(bus)
 
 
+def look_at_rides(bus, number, given):
+    if number == 15:
+        return morning(bus, given[0])
+    if number == 16:
+        return evening(bus, given[0])
+    if number == 17:
+        return latest(bus, given[0])
+    if number == 18:
+        return ride(bus, given[0])
+    if number == 19:
+        return longest(bus)
+    if number == 20:
+        return toolong(bus)
+    if number == 21:
+        return loads(bus)
+    return full(bus)
+
+
 def look(bus, number, given):
     if number == 11:
         return where(bus, given[0])
@@ -54,7 +72,19 @@ def look(bus, number, given):
         return unreached(bus)
     if number == 14:
         return unserved(bus)
-    raise NotBuilt(f"there is no call {number} yet")
+    if number == 23:
+        return best(bus)
+    if number == 24:
+        return fewest(bus)
+    if number == 25:
+        return spare(bus)
+    if number == 26:
+        return walks(bus)
+    if number == 27:
+        return reach(bus, given[0], given[1])
+    if number == 28:
+        return order_now(bus)
+    return state(bus)
 
 
 def answer(line, number, given):
@@ -64,6 +94,8 @@ def answer(line, number, given):
         return [NOT_BEGUN]
     if number <= LAST_CHANGE:
         return change(line.bus, number, given)
+    if FIRST_OF_RIDES <= number <= LAST_OF_RIDES:
+        return look_at_rides(line.bus, number, given)
     return look(line.bus, number, given)
 
 

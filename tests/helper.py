@@ -6,7 +6,11 @@ import unittest
 from schoolbus.bus import Line
 from schoolbus.stops import answer, answers
 
-(BEGIN, RULE, STOP, OPEN, CLOSE, PUPIL, MOVES, AWAY, COMES, ROUTE, TAKE, WHERE, AT, UNREACHED, UNSERVED) = range(15)
+(BEGIN, RULE, STOP, OPEN, CLOSE, PUPIL, MOVES, AWAY, COMES, ROUTE, TAKE, WHERE, AT, UNREACHED, UNSERVED,
+ MORNING, EVENING, LATEST, RIDE, LONGEST, TOOLONG, LOADS, FULL, BEST, FEWEST, SPARE, WALKS, REACH, ORDER,
+ STATE) = range(30)
+
+LOOKING = range(WHERE, STATE + 1)
 
 NO_SUCH = [-2]
 NONE_AT_ALL = [-6]
@@ -79,7 +83,12 @@ def line_after(calls):
 
 
 def order_after(calls):
-    return line_after(calls).bus.order
+    return last(calls + [(ORDER,)])[1:-1]
+
+
+def stops_and_pupils(places):
+    """A stop, and one pupil who lives at it, at each place."""
+    return [(STOP, x, y) for x, y in places] + [(PUPIL, x, y) for x, y in places]
 
 
 def picture(value):
@@ -120,42 +129,60 @@ class Maker:
         seats = self.luck.choice((0, 1, 60, 61)) if self.odd() else self.luck.randint(1, 9)
         return (BEGIN, self.coordinate(), self.coordinate(), self.coordinate(), self.coordinate(), walk, seats)
 
-    def call(self):
-        kind = self.luck.choices(range(15), (1, 2, 14, 5, 6, 20, 6, 6, 6, 10, 10, 10, 10, 8, 8))[0]
-        if kind == 0:
+    def rule(self):
+        limit = self.luck.choice((0, 10000, 10001)) if self.odd() else self.luck.randint(0, min(10000, 6 * self.span))
+        return (RULE, self.number(101), self.number(101), limit)
+
+    def time(self):
+        if self.odd():
+            return self.luck.choice((0, 100000, 100001, MOST_WHOLE))
+        return self.luck.randint(0, 12 * self.span)
+
+    def route(self):
+        told = self.luck.sample(range(8), self.luck.randint(0, 5))
+        if self.odd():
+            told = told + [self.luck.choice((0, 1, 10, 255))]
+        return (ROUTE, told)
+
+    def call(self, kind):
+        if kind == BEGIN:
             return self.begin()
-        if kind == 1:
-            return (kind, self.number(101), self.number(101), self.luck.choice((0, 10000, 10001)))
-        if kind in (2, 5):
+        if kind == RULE:
+            return self.rule()
+        if kind == ROUTE:
+            return self.route()
+        if kind in (STOP, PUPIL, REACH):
             return (kind, self.coordinate(), self.coordinate())
-        if kind == 6:
+        if kind == MOVES:
             return (kind, self.number(8), self.coordinate(), self.coordinate())
-        if kind == 9:
-            told = self.luck.sample(range(8), self.luck.randint(0, 5))
-            if self.odd():
-                told = told + [self.luck.choice((0, 1, 10, 255))]
-            return (kind, told)
-        if kind in (3, 4, 12):
+        if kind in (OPEN, CLOSE, AT):
             return (kind, self.number(8))
-        if kind in (7, 8, 11):
+        if kind in (AWAY, COMES, WHERE, RIDE):
             return (kind, self.number(12))
+        if kind in (MORNING, EVENING, LATEST):
+            return (kind, self.time())
         return (kind,)
 
     def line(self, many):
-        return [self.begin()] + [self.call() for k in range(many)]
+        changes = (1, 4, 14, 5, 6, 20, 6, 6, 6, 10, 10)
+        kinds = self.luck.choices(range(STATE + 1), changes + (5,) * len(LOOKING), k=many)
+        return [self.begin()] + [self.call(kind) for kind in kinds]
 
     def full_line(self):
         """A begun bus with some stops and pupils, a few of them closed and away, and an order."""
         walk = self.luck.randint(0, self.span)
-        calls = [(BEGIN, 0, 0, 1, 1, walk, 9)]
-        for k in range(self.luck.randint(0, 9)):
+        ends = [self.luck.randint(-self.span, self.span) for k in range(4)]
+        calls = [(BEGIN, *ends, walk, self.luck.randint(1, 9)), self.rule()]
+        many = self.luck.randint(0, 10)
+        for k in range(many):
             calls.append((STOP, self.coordinate(), self.coordinate()))
         for k in range(self.luck.randint(0, 20)):
             calls.append((PUPIL, self.coordinate(), self.coordinate()))
-        for k in range(3):
-            calls.append((CLOSE, self.luck.randrange(10)))
-            calls.append((AWAY, self.luck.randrange(20)))
-        calls.append(self.luck.choice([(TAKE,), (ROUTE, self.luck.sample(range(4), 2))]))
+        closed = self.luck.sample(range(many), self.luck.randint(0, many // 4))
+        left = [s for s in range(many) if s not in closed]
+        calls = calls + [(CLOSE, s) for s in closed] + [(AWAY, self.luck.randrange(20)) for k in range(3)]
+        route = self.luck.sample(left, self.luck.randint(0, len(left)))
+        calls.append(self.luck.choice([(TAKE,), (ROUTE, route), (ROUTE, route)]))
         return calls
 
 

@@ -1,16 +1,18 @@
 """Before a begin that answers 0; a begin that is refused; a second begin."""
 
 from tests.helper import (
-    AT, AWAY, BEGIN, BusTest, CLOSE, COMES, MOST_INT, MOST_WHOLE, MOVES, NO_SUCH, NOT_BEGUN, NOT_PLACES, OPEN,
-    OUT_OF_RANGE, PLAIN, PUPIL, ROUTE, RULE, STOP, TAKE, UNREACHED, UNSERVED, WHERE, CORNERS, ask, line_after, picture,
+    AT, AWAY, BEGIN, BEST, BusTest, CLOSE, COMES, CORNERS, EVENING, FEWEST, FULL, LATEST, LOADS, LONGEST, MORNING,
+    MOST_INT, MOST_WHOLE, MOVES, NO_SUCH, NOT_BEGUN, NOT_PLACES, OPEN, ORDER, OUT_OF_RANGE, PLAIN, PUPIL, REACH, RIDE,
+    ROUTE, RULE, SPARE, STATE, STOP, TAKE, TOOLONG, UNREACHED, UNSERVED, WALKS, WHERE, ask, line_after, picture,
 )
 
 ALL_BUT_BEGIN = [
     (RULE, 1, 2, 3), (STOP, 0, 0), (OPEN, 0), (CLOSE, 0), (PUPIL, 0, 0), (MOVES, 0, 0, 0), (AWAY, 0), (COMES, 0),
     (ROUTE, []), (ROUTE, [0]), (ROUTE, [1, 1, 255]), (TAKE,), (WHERE, 0), (AT, 0), (UNREACHED,), (UNSERVED,),
-    (15, 0), (16, 0), (17, 0), (18, 0), (19,), (20,), (21,), (22,), (23,), (24,), (25,), (26,), (27, 0, 0),
-    (28,), (29,),
-    (RULE, 101, 0, 0), (STOP, 1001, 0), (PUPIL, 0, -1001), (MOVES, MOST_WHOLE, MOST_INT, 0), (15, MOST_WHOLE),
+    (MORNING, 0), (EVENING, 0), (LATEST, 0), (RIDE, 0), (LONGEST,), (TOOLONG,), (LOADS,), (FULL,), (BEST,), (FEWEST,),
+    (SPARE,), (WALKS,), (REACH, 0, 0), (ORDER,), (STATE,),
+    (RULE, 101, 0, 0), (STOP, 1001, 0), (PUPIL, 0, -1001), (MOVES, MOST_WHOLE, MOST_INT, 0),
+    (MORNING, 100001), (EVENING, MOST_WHOLE), (LATEST, 100001), (RIDE, MOST_WHOLE), (REACH, 1001, 0),
 ]
 
 REFUSED_BEGINS = (
@@ -30,7 +32,11 @@ class BeforeBegin(BusTest):
     def test_all_in_one_line_and_they_leave_nothing(self):
         self.check([(call, NOT_BEGUN) for call in ALL_BUT_BEGIN] + [
             (PLAIN, [0]), ((UNREACHED,), [0]), ((AT, 0), NO_SUCH), ((WHERE, 0), NO_SUCH),
+            ((STATE,), [0, 0, 0, 0, 0, 0, 0]), ((ORDER,), [0, 0]),
         ])
+
+    def test_each_call_is_among_them(self):
+        self.assertEqual({call[0] for call in ALL_BUT_BEGIN}, set(range(1, 30)))
 
     def test_a_refused_begin_begins_nothing(self):
         for refused in REFUSED_BEGINS:

@@ -3,10 +3,19 @@
 import itertools
 
 from schoolbus.stops import answers
-from tests.helper import BusTest, Maker, far, handed, line_after, split
+from tests.helper import BusTest, LOOKING, Maker, ask, far, handed, split
 
 NAMES = ["begin", "rule", "stop", "open", "close", "pupil", "moves", "away", "comes", "route", "take", "where", "at",
-         "unreached", "unserved"]
+         "unreached", "unserved", "morning", "evening", "latest", "ride", "longest", "toolong", "loads", "full", "best",
+         "fewest", "spare", "walks", "reach", "order", "state"]
+
+# Beside -11: in which ways each call can be refused.
+REFUSALS = {
+    "begin": (-22,), "rule": (-22,), "stop": (-22, -28), "open": (-2, -17), "close": (-2, -17), "pupil": (-22, -28),
+    "moves": (-2, -22), "away": (-2, -17), "comes": (-2, -17), "route": (-2, -22, -16), "take": (-6, -28),
+    "where": (-2, -33), "at": (-2,), "morning": (-22,), "evening": (-22,), "latest": (-22, -33), "ride": (-2, -33),
+    "longest": (-6,), "full": (-6,), "best": (-6, -28), "fewest": (-33,), "reach": (-22,),
+}
 
 
 def wrong_place(*numbers):
@@ -26,12 +35,16 @@ class Model:
         if wrong_place(sx, sy, gx, gy) or walk not in range(1001) or seats not in range(1, 61):
             return [-22]
         self.begun = True
-        self.school, self.garage, self.walk = (sx, sy), (gx, gy), walk
-        self.stops, self.closed, self.pupils, self.gone, self.order = {}, set(), {}, set(), ()
+        self.school, self.garage, self.walk, self.seats = (sx, sy), (gx, gy), walk, seats
+        self.halt, self.each, self.limit = 0, 0, 10000
+        self.stops, self.closed, self.pupils, self.gone, self.sequence = {}, set(), {}, set(), ()
         return [0]
 
     def rule(self, halt, each, limit):
-        return [0 if halt <= 100 and each <= 100 and limit <= 10000 else -22]
+        if not (halt <= 100 and each <= 100 and limit <= 10000):
+            return [-22]
+        self.halt, self.each, self.limit = halt, each, limit
+        return [0]
 
     def more(self, kept, most, x, y):
         if wrong_place(x, y):
@@ -62,7 +75,7 @@ class Model:
             return [-17]
         were = self.at(s)[0]
         self.closed.add(s)
-        self.order = tuple(other for other in self.order if other != s)
+        self.sequence = tuple(other for other in self.sequence if other != s)
         return [were]
 
     def moves(self, p, x, y):
@@ -96,7 +109,7 @@ class Model:
             return [-22]
         if set(told) & self.closed:
             return [-16]
-        self.order = tuple(told)
+        self.sequence = tuple(told)
         return [len(told)]
 
     def stop_for(self, p):
@@ -111,14 +124,21 @@ class Model:
         places = [self.garage] + [self.stops[s] for s in order] + [self.school]
         return sum(far(one, other) for one, other in zip(places, places[1:]))
 
-    def take(self):
+    def best(self):
         needed = {self.stop_for(p)[1] for p in self.there() if self.stop_for(p)}
         if not needed:
             return [-6]
         if len(needed) > 6:
             return [-28]
-        self.order = min((self.way(order), order) for order in itertools.permutations(needed))[1]
-        return [len(needed)]
+        way, order = min((self.way(order), order) for order in itertools.permutations(needed))
+        return [way, *order]
+
+    def take(self):
+        found = self.best()
+        if found[0] < 0:
+            return found
+        self.sequence = tuple(found[1:])
+        return [len(found) - 1]
 
     def where(self, p):
         if p not in self.pupils:
@@ -137,8 +157,105 @@ class Model:
         return [len(these)] + these
 
     def unserved(self):
-        these = [p for p in self.there() if self.stop_for(p) and self.stop_for(p)[1] not in self.order]
+        these = [p for p in self.there() if self.stop_for(p) and self.stop_for(p)[1] not in self.sequence]
         return [len(these)] + these
+
+    def served(self):
+        return [s for s in self.sequence if self.at(s)[0] > 0]
+
+    def riders(self):
+        return sorted(p for s in self.served() for p in self.at(s)[1:])
+
+    def legs(self, places):
+        return [far(one, other) for one, other in zip(places, places[1:])]
+
+    def trip(self, start, stops, goal, t):
+        legs = self.legs([start] + [self.stops[s] for s in stops] + [goal])
+        waits = [self.halt + sum(self.each for p in self.at(s)[1:]) for s in stops]
+        return [t + sum(legs[:k + 1]) + sum(waits[:k]) for k in range(len(legs))]
+
+    def told(self, stops, times):
+        return [len(stops)] + [number for pair in zip(stops, times) for number in pair] + [times[-1]]
+
+    def morning(self, t):
+        if t > 100000:
+            return [-22]
+        return self.told(self.served(), self.trip(self.garage, self.served(), self.school, t))
+
+    def evening(self, t):
+        if t > 100000:
+            return [-22]
+        return self.told(self.served()[::-1], self.trip(self.school, self.served()[::-1], self.garage, t))
+
+    def latest(self, t):
+        if t > 100000:
+            return [-22]
+        return [t - self.length()] if t >= self.length() else [-33]
+
+    def length(self):
+        # The way, and all the waits: each served stop once, each rider once.
+        return self.way(self.served()) + self.halt * len(self.served()) + self.each * len(self.riders())
+
+    def ride(self, p):
+        if p not in self.pupils:
+            return [-2]
+        if p not in self.riders():
+            return [-33]
+        told = self.morning(0)
+        came = dict(zip(told[1:-1:2], told[2:-1:2]))
+        return [told[-1] - came[self.stop_for(p)[1]]]
+
+    def longest(self):
+        rides = [(-self.ride(p)[0], p) for p in self.riders()]
+        return [min(rides)[1], -min(rides)[0]] if rides else [-6]
+
+    def toolong(self):
+        these = [p for p in self.riders() if self.ride(p)[0] > self.limit]
+        return [len(these)] + these
+
+    def loads(self):
+        aboard = [self.at(s)[0] for s in self.served()]
+        return [len(aboard)] + list(itertools.accumulate(aboard))
+
+    def full(self):
+        over = [[s, load - self.seats] for s, load in zip(self.served(), self.loads()[1:]) if load > self.seats]
+        return over[0] if over else [-6]
+
+    def opened(self):
+        return [s for s in self.stops if s not in self.closed]
+
+    def reached_by(self, stops):
+        return {p for p in self.there() for s in stops if far(self.stops[s], self.pupils[p]) <= self.walk}
+
+    def fewest(self):
+        everybody = set(self.there())
+        for many in range(len(self.opened()) + 1):
+            for stops in itertools.combinations(self.opened(), many):
+                if self.reached_by(stops) == everybody:
+                    return [many, *stops]
+        return [-33]
+
+    def spare(self):
+        now = self.reached_by(self.opened())
+        these = [s for s in self.opened() if self.reached_by(set(self.opened()) - {s}) == now]
+        return [len(these)] + these
+
+    def walks(self):
+        ways = [self.stop_for(p)[0] for p in self.there() if self.stop_for(p)]
+        return [len(ways), sum(ways), max(ways + [0])]
+
+    def reach(self, x, y):
+        if wrong_place(x, y):
+            return [-22]
+        near = [p for p in self.there() if far((x, y), self.pupils[p]) <= self.walk]
+        return [len(near), sum(not self.stop_for(p) for p in near)]
+
+    def order(self):
+        return [len(self.sequence), *self.sequence, self.way(self.served())]
+
+    def state(self):
+        return [0, len(self.stops), len(self.opened()), len(self.pupils), len(self.there()), len(self.riders()),
+                self.length()]
 
 
 class AsTheModel(BusTest):
@@ -152,15 +269,19 @@ class AsTheModel(BusTest):
             got = split(answers(line))
             for k, call in enumerate(calls):
                 self.assertEqual(got[k], wanted[k], f"line {seed}, call {k}: {call}")
-                met.add((call[0], min(wanted[k][0], 0)))
+                met.add((NAMES[call[0]], min(wanted[k][0], 0)))
             self.assertEqual(line, handed(calls))
-            after = line_after(calls).bus
-            if model.begun:
-                self.assertEqual(after.order, list(model.order), f"line {seed}")
         # Each call has been answered, and refused in each way that it can be.
-        ways = {0: (0, -22), 1: (0, -22, -11), 2: (0, -22, -28), 3: (0, -2, -17), 4: (0, -2, -17), 5: (0, -22, -28),
-                6: (0, -2, -22), 7: (0, -2, -17), 8: (0, -2, -17), 9: (0, -2, -22, -16), 10: (0, -6, -28),
-                11: (0, -2, -33), 12: (0, -2), 13: (0, -11), 14: (0, -11)}
-        for kind, numbers in ways.items():
-            for number in numbers:
-                self.assertIn((kind, number), met)
+        for name in NAMES:
+            for number in (0,) + REFUSALS.get(name, ()):
+                self.assertIn((name, number), met)
+
+    def test_looking_at_all_behind_full_lines(self):
+        for seed in range(150):
+            maker = Maker(seed)
+            calls = maker.full_line()
+            calls = calls + [maker.call(kind) for kind in LOOKING] * 2
+            model = Model()
+            wanted = [model.answer(NAMES[call[0]], *call[1:]) for call in calls]
+            for call, told, asked in zip(calls, ask(calls), wanted, strict=True):
+                self.assertEqual(told, asked, f"line {seed}: {call}")

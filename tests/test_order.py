@@ -4,14 +4,9 @@ import itertools
 
 from tests.helper import (
     AWAY, BEGIN, BusTest, CLOSE, CLOSED, MOVES, NO_SUCH, NONE_AT_ALL, OUT_OF_RANGE, PLAIN, PUPIL, ROUTE, STOP, TAKE,
-    TOO_MANY, UNSERVED, line_after, order_after,
+    TOO_MANY, UNSERVED, line_after, order_after, stops_and_pupils,
 )
 from schoolbus.orders import all_orders, way
-
-
-def stops_and_pupils(places):
-    """A stop, and one pupil who lives at it, at each place."""
-    return [(STOP, x, y) for x, y in places] + [(PUPIL, x, y) for x, y in places]
 
 
 class Route(BusTest):
